@@ -1,0 +1,1 @@
+"""Loopyard: one thread, one loop, and everything that waits on it."""

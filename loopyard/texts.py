@@ -1,0 +1,58 @@
+"""What is a whole number, a name, a word."""
+
+SMALL = "abcdefghijklmnopqrstuvwxyz"
+CAPITAL = "ABCDEFGHIJKLMNOPQRSTUVWXYZ"
+DIGITS = "0123456789"
+LONGEST = 20
+
+
+def is_whole(value):
+    return isinstance(value, int) and not isinstance(value, bool)
+
+
+def is_name(value):
+    """A text of 1 to 20 letters, digits and underscores that begins with a letter."""
+    if not isinstance(value, str) or not 1 <= len(value) <= LONGEST:
+        return False
+    if value[0] not in SMALL and value[0] not in CAPITAL:
+        return False
+    return all([sign in SMALL or sign in CAPITAL or sign in DIGITS or sign == "_" for sign in value])
+
+
+def is_word(value):
+    """A name without capital letters."""
+    return is_name(value) and not any([sign in CAPITAL for sign in value])
+
+
+def is_param(value):
+    return is_name(value) and value[0] in SMALL
+
+
+def is_plain_value(value):
+    """None, a bool, a whole number, a text that does not begin with @, or a tuple of these."""
+    todo = [value]
+    while todo:
+        part = todo.pop()
+        if isinstance(part, tuple):
+            todo.extend(list(part))
+        elif isinstance(part, str):
+            if part.startswith("@"):
+                return False
+        elif part is not None and not isinstance(part, int):
+            return False
+    return True
+
+
+def is_arg(value):
+    """Like a plain value, but that a text may stand for a variable: @ and its name."""
+    todo = [value]
+    while todo:
+        part = todo.pop()
+        if isinstance(part, tuple):
+            todo.extend(list(part))
+        elif isinstance(part, str):
+            if part.startswith("@") and not is_name(part[1:]):
+                return False
+        elif part is not None and not isinstance(part, int):
+            return False
+    return True

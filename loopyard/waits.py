@@ -1,0 +1,180 @@
+"""Sleeping, and waiting for several things or for one thing for a time [7.2, 7.3, 7.8, 7.9]."""
+
+from loopyard.checks import need, need_tuple, need_whole, need_whole_or_none
+from loopyard.coroutines import awaiting
+from loopyard.faults import Fault, Thrown, is_cancel
+from loopyard.futures import Release, ask, cancel, is_done, lay, new_future, release, see, unlay
+from loopyard.signals import ENDS, ENTERS, FAILS, FAULT, NORMAL, PAUSES, WAITS
+from loopyard.tasks import as_future
+from loopyard.things import CANCELLED, Future
+from loopyard.timeouts import Timeout
+
+UNTILS = ("ALL_COMPLETED", "FIRST_COMPLETED", "FIRST_EXCEPTION")
+
+
+class Sleep:
+    """The coroutine of a sleep."""
+
+    def __init__(self, delay, result):
+        self.delay = delay
+        self.result = result
+        self.timer = None
+
+    def start(self, loop):
+        need_whole(self.delay)
+        if self.delay <= 0:
+            return (PAUSES, None)
+        waiter = new_future(loop)
+        self.timer = loop.timer_at(loop.clock + self.delay, Release(waiter, self.result))
+        return (WAITS, waiter)
+
+    def took(self, loop, value):
+        self.drop_timer(loop)
+        return (ENDS, self.result)
+
+    def threw(self, loop, fault):
+        self.drop_timer(loop)
+        return (FAILS, fault)
+
+    def drop_timer(self, loop):
+        if self.timer is not None:
+            loop.drop(self.timer)
+
+
+class Wait:
+    """The coroutine of a wait; it lays itself to the futures that it watches, and counts them."""
+
+    def __init__(self, things, timeout, until):
+        self.things = things
+        self.timeout = timeout
+        self.until = until
+        self.watched = []
+        self.left = 0
+        self.waiter = None
+        self.timer = None
+
+    def start(self, loop):
+        need_tuple(self.things)
+        need(len(self.things) > 0, "ValueError")
+        need(isinstance(self.until, str) and self.until in UNTILS, "ValueError")
+        need(all([isinstance(thing, Future) for thing in self.things]), "TypeError")
+        need_whole_or_none(self.timeout)
+        self.watched = list({thing: True for thing in self.things})
+        self.left = len(self.watched)
+        self.waiter = new_future(loop)
+        if self.timeout is not None:
+            self.timer = loop.timer_at(loop.clock + self.timeout, Release(self.waiter))
+        for future in self.watched:
+            lay(loop, future, self)
+        return (WAITS, self.waiter)
+
+    def who(self):
+        return "wait"
+
+    def fire(self, loop, given):
+        self.left -= 1
+        if self.left <= 0 or self.until == "FIRST_COMPLETED" or self.is_exception(loop, given):
+            self.drop_timer(loop)
+            release(loop, self.waiter, None)
+
+    def is_exception(self, loop, future):
+        if self.until != "FIRST_EXCEPTION" or future.state == CANCELLED:
+            return False
+        see(loop, future)
+        return future.fault is not None
+
+    def drop_timer(self, loop):
+        if self.timer is not None:
+            loop.drop(self.timer)
+
+    def clean_up(self, loop):
+        self.drop_timer(loop)
+        for future in self.watched:
+            unlay(future, self)
+
+    def took(self, loop, value):
+        self.clean_up(loop)
+        done = [future for future in self.watched if is_done(future)]
+        others = [future for future in self.watched if not is_done(future)]
+        return (ENDS, (tuple(done), tuple(others)))
+
+    def threw(self, loop, fault):
+        self.clean_up(loop)
+        return (FAILS, fault)
+
+
+class WaitFor:
+    """The coroutine of a wait_for: what it does hangs on its timeout."""
+
+    def __init__(self, thing, timeout):
+        self.thing = thing
+        self.timeout = timeout
+
+    def start(self, loop):
+        need_whole_or_none(self.timeout)
+        if self.timeout is None:
+            return (ENTERS, TimedBlock(self.thing, Timeout(None)))
+        if self.timeout <= 0:
+            return (ENTERS, CancelAndWait(self.thing))
+        return (ENTERS, TimedBlock(self.thing, Timeout(loop.clock + self.timeout)))
+
+    def took(self, loop, value):
+        return (ENDS, value)
+
+    def threw(self, loop, fault):
+        return (FAILS, fault)
+
+
+class CancelAndWait:
+    """A wait_for without any time: what is not done is cancelled."""
+
+    def __init__(self, thing):
+        self.thing = thing
+        self.future = None
+        self.laid = None
+
+    def start(self, loop):
+        self.future = as_future(loop, self.thing)
+        if is_done(self.future):
+            return (ENDS, ask(loop, self.future))
+        waiter = new_future(loop)
+        self.laid = Release(waiter)
+        lay(loop, self.future, self.laid)
+        cancel(loop, self.future, None)
+        return (WAITS, waiter)
+
+    def took(self, loop, value):
+        unlay(self.future, self.laid)
+        try:
+            return (ENDS, ask(loop, self.future))
+        except Thrown as e:
+            if is_cancel(e.fault):
+                return (FAILS, Fault("TimeoutError"))
+            return (FAILS, e.fault)
+
+    def threw(self, loop, fault):
+        unlay(self.future, self.laid)
+        return (FAILS, fault)
+
+
+class TimedBlock:
+    """A wait_for with a time, or without an end: a block within a Timeout."""
+
+    def __init__(self, thing, timeout):
+        self.thing = thing
+        self.timeout = timeout
+
+    def start(self, loop):
+        self.timeout.enter(loop)
+        try:
+            return awaiting(loop, self.thing)
+        except Thrown as e:
+            return self.threw(loop, e.fault)
+
+    def took(self, loop, value):
+        self.timeout.leave(loop, NORMAL, None)
+        return (ENDS, value)
+
+    def threw(self, loop, fault):
+        self.timeout.leave(loop, FAULT, fault)
+        return (FAILS, fault)
