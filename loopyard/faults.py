@@ -45,7 +45,7 @@ def is_of_kind(fault, name):
         return True
     if name == "Exception":
         return fault.kind not in NO_EXCEPTIONS
-    return fault.kind == name or ABOVE.get(fault.kind, "") == name
+    return fault.kind == name or ABOVE.get(fault.kind, None) == name
 
 
 def is_of_kinds(fault, kinds):

@@ -28,7 +28,8 @@ class StateTest(Case):
     def test_a_value(self):
         self.assert_said([None, True, False, 7, None, 7], F, tell("set_result", "@f", 7), tell("done", "@f"),
                          tell("cancelled", "@f"), tell("result", "@f"), tell("exception", "@f"), tell("result", "@f"))
-        self.assert_said([None, None, True], F, tell("set_result", "@f", None), tell("result", "@f"), tell("done", "@f"))
+        self.assert_said([None, None, True], F, tell("set_result", "@f", None), tell("result", "@f"),
+                         tell("done", "@f"))
 
     def test_a_fault(self):
         odd = fault("Odd", 1)

@@ -289,7 +289,8 @@ class ArrivalsTest(Case):
         self.assertEqual((("stuck",), 4), (told.outcome, told.now))
 
     def test_the_wrong_number_of_args(self):
-        told = report(do("reader", "s", "reads"), sleep(0), sleep(0), do("unread", "s"), outside=((0, "s", 1),), reads=READS)
+        told = report(do("reader", "s", "reads"), sleep(0), sleep(0), do("unread", "s"), outside=((0, "s", 1),),
+                      reads=READS)
         self.assertEqual([("Exception in callback reads", "reads", fault("TypeError"))],
                          [note[1:] for note in told.notes])
 

@@ -105,7 +105,8 @@ class TryTest(Case):
                          sub=plain(attempt(ODD, on("Odd", say("h"), ("return", 5)), last=[say("last")])))
 
     def test_the_end_of_last_takes_the_place_of_what_came_before(self):
-        for last, expected in (([("return", "new")], "new"), ([let("y", "fault", "New"), ("raise", "@y")], fault("New"))):
+        new = [let("y", "fault", "New"), ("raise", "@y")]
+        for last, expected in (([("return", "new")], "new"), (new, fault("New"))):
             for body in (ODD, [("return", "old")], []):
                 self.assert_said([expected], tell("call", "sub"), sub=plain(attempt(body, last=last), say("never")))
         self.assert_said(["end"], ("while", ("it", 1), (attempt(ODD, last=[("break",)]),)), say("end"))
