@@ -3,14 +3,14 @@
 from loopyard.coroutines import new_coroutine
 from loopyard.faults import Fault, Thrown
 from loopyard.frames import Body
-from loopyard.signals import ENDS, ENTERS, FAILS, FAULT, LEAVES, RETURN
+from loopyard.signals import ENDS, ENTERS, FAILS, FAULT, LEAVES
 
 # What the innermost frame is told.
 GO = 0
 CALLED = 1
 AWAITED = 2
-THREW_IN = 3
-ENDED = 4
+ENDED = 3
+FAILED = 4
 
 
 def is_shared(name):
@@ -67,10 +67,8 @@ class Activation:
         return self.run(loop, AWAITED, value)
 
     def threw(self, loop, fault):
-        if self.calling:
-            self.calling = False
-            return self.run(loop, None, fault)
-        return self.run(loop, THREW_IN, fault)
+        self.calling = False
+        return self.run(loop, FAILED, fault)
 
     def run(self, loop, news, worth):
         """Go on until there is a signal for the machine."""
@@ -87,7 +85,7 @@ class Activation:
                 news, worth = ENDED, signal[1]
 
     def answer(self, loop, news, worth):
-        """What the innermost frame answers; a fault out of it, or out of a call of it, leaves it."""
+        """What the innermost frame answers; a fault out of it, or of what it waited for, leaves it."""
         frame = self.frames[-1]
         try:
             if news == GO:
@@ -96,8 +94,6 @@ class Activation:
                 return frame.called(loop, self, worth)
             if news == AWAITED:
                 return frame.awaited(loop, self, worth)
-            if news == THREW_IN:
-                return frame.threw(loop, self, worth)
             if news == ENDED:
                 return frame.ended(loop, self, worth[0], worth[1])
         except Thrown as e:
@@ -108,9 +104,7 @@ class Activation:
         how, value = end
         if how == FAULT:
             return (FAILS, value)
-        if how == RETURN:
-            return (ENDS, value)
-        return (ENDS, None)
+        return (ENDS, value)
 
 
 def start_routine(loop, word, told):

@@ -1,7 +1,7 @@
 """Conditions [9.4]."""
 
 from loopyard.activation import start_routine
-from loopyard.faults import Fault, Thrown, is_cancel
+from loopyard.faults import Fault, Thrown
 from loopyard.lines import join_line, leave_line, wake_live
 from loopyard.locks import Acquire
 from loopyard.managers import Manager
@@ -28,12 +28,9 @@ class Condition(Manager):
         self.lock.set_free(loop)
         return (LEAVES, (how, value))
 
-    def need_held(self):
+    def notify(self, loop, most):
         if not self.lock.held:
             raise Thrown(Fault("RuntimeError"))
-
-    def notify(self, loop, most):
-        self.need_held()
         self.wake(loop, most)
 
     def notify_all(self, loop):
@@ -54,7 +51,6 @@ class ConditionWait:
 
     def start(self, loop):
         condition = self.condition
-        condition.need_held()
         condition.lock.set_free(loop)
         self.waiter = join_line(loop, condition.row)
         return (WAITS, self.waiter)
@@ -64,12 +60,12 @@ class ConditionWait:
             return self.take_lock()
         if self.fault is None:
             return (ENDS, True)
-        return self.fail(loop, self.fault)
+        # Who may have been woken hands it on ahead of any fault.
+        self.condition.wake(loop, 1)
+        return (FAILS, self.fault)
 
     def threw(self, loop, fault):
-        """Out of the wait, or out of taking the lock: that is tried again behind a CancelledError."""
-        if self.is_woken and not is_cancel(fault):
-            return self.fail(loop, fault)
+        """A CancelledError out of the wait, or out of taking the lock, which is tried again then."""
         self.fault = fault
         return self.take_lock()
 
@@ -78,11 +74,6 @@ class ConditionWait:
             self.is_woken = True
             leave_line(self.condition.row, self.waiter)
         return (ENTERS, Acquire(self.condition.lock))
-
-    def fail(self, loop, fault):
-        """Who was woken hands it on ahead of any fault."""
-        self.condition.wake(loop, 1)
-        return (FAILS, fault)
 
 
 class ConditionUntil:

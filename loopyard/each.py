@@ -28,8 +28,7 @@ class Each(Thing):
         if given is None:
             self.run_out(loop)
         elif self.open_ones:
-            if given in self.open_ones:
-                self.open_ones.remove(given)
+            self.open_ones.remove(given)
             self.put_end(loop, given)
             if not self.open_ones and self.timer is not None:
                 loop.drop(self.timer)

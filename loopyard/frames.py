@@ -1,9 +1,9 @@
 """The frames of an activation: bodies, and what stands around them [5.3].
 
 A frame is told what happens by its methods: go (nothing held it up), called (a call has given a
-value), awaited and threw (what it awaited has ended), ended (the frame above it has been left).
-Each answers with a signal, or with None if the activation goes on by itself. What is thrown out of
-one of them leaves the frame with this fault.
+value), awaited (what it awaited has), ended (the frame above it has been left). Each answers with
+a signal, or with None if the activation goes on by itself. What is thrown out of one of them, or
+out of what it called or awaited, leaves the frame with this fault.
 """
 
 from loopyard.coroutines import awaiting, new_coroutine
@@ -113,9 +113,6 @@ class Body:
     def awaited(self, loop, act, value):
         act.assign(loop, self.steps[self.at - 1][1], value)
 
-    def threw(self, loop, act, fault):
-        return (LEAVES, (FAULT, fault))
-
     def ended(self, loop, act, how, value):
         if how == NORMAL:
             return None
@@ -191,9 +188,6 @@ class EachTurns:
         act.assign(loop, self.step[1], value)
         act.frames.append(Body(self.step[3]))
 
-    def threw(self, loop, act, fault):
-        return (LEAVES, (FAULT, fault))
-
     def ended(self, loop, act, how, value):
         if how == NORMAL:
             return None
@@ -267,9 +261,6 @@ class With:
         act.assign(loop, self.step[1], self.manager.entered(value))
         act.frames.append(Body(self.step[3]))
         return None
-
-    def threw(self, loop, act, fault):
-        return (LEAVES, (FAULT, fault))
 
     def ended(self, loop, act, how, value):
         self.stage = GOING_OUT

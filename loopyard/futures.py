@@ -68,19 +68,15 @@ def release(loop, future, value):
         give_value(loop, future, value)
 
 
-def kept_message_fault(future):
-    if future.message is None:
-        return Fault(CANCELLED_KIND)
-    return Fault(CANCELLED_KIND, (future.message,))
-
-
 def cancelled_fault(future):
     """The CancelledError for who asks now: the one that is kept goes to the first [6.5]."""
     kept = future.kept
-    if kept is None:
-        return kept_message_fault(future)
     future.kept = None
-    return kept
+    if kept is not None:
+        return kept
+    if future.message is None:
+        return Fault(CANCELLED_KIND)
+    return Fault(CANCELLED_KIND, (future.message,))
 
 
 def outcome(loop, future):

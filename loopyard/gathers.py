@@ -2,9 +2,7 @@
 
 from loopyard.checks import need_awaitable, need_tuple
 from loopyard.faults import CANCELLED_KIND, Fault
-from loopyard.futures import (
-    cancelled_fault, give_fault, give_value, is_done, kept_message_fault, lay, new_future, see,
-)
+from loopyard.futures import cancelled_fault, give_fault, give_value, is_done, lay, new_future, see
 from loopyard.tasks import as_future
 from loopyard.things import CANCELLED, Gathering
 
@@ -42,11 +40,8 @@ class Gatherer:
         if not outer.asked:
             give_value(loop, outer, tuple([child_outcome(child) for child in outer.children]))
             return
-        last = outer.children[-1]
-        if last.state == CANCELLED:
-            give_fault(loop, outer, cancelled_fault(last))
-        else:
-            give_fault(loop, outer, kept_message_fault(last))
+        # Of one that was not cancelled this is a new fault with the message that it keeps.
+        give_fault(loop, outer, cancelled_fault(outer.children[-1]))
 
 
 def child_outcome(child):
@@ -56,7 +51,7 @@ def child_outcome(child):
     return Fault(CANCELLED_KIND, ("" if child.message is None else child.message,))
 
 
-def gather(loop, things, as_values=False):
+def gather(loop, things, as_values):
     need_tuple(things)
     if len(things) == 0:
         outer = new_future(loop)

@@ -69,7 +69,7 @@ class Program:
         check_routines(routines)
         check_outside(outside)
         self._routines = {word: routines[word] for word in sorted(routines)}
-        self._outside = outside
+        self._arrivals = outside
 
     @property
     def routines(self):
@@ -77,4 +77,4 @@ class Program:
 
     @property
     def outside(self):
-        return self._outside
+        return self._arrivals

@@ -192,13 +192,7 @@ class Report:
         self.notes = loop.notes
         self.now = loop.clock
         self.turns = life.turns
-        self.waiting = [(task.name, shown_wait(loop, task)) for task in loop.undone.values()]
-
-
-def shown_wait(loop, task):
-    if task.waits is None:
-        return None
-    return loop.show(task.waits)
+        self.waiting = [(task.name, loop.show(task.waits)) for task in loop.undone.values()]
 
 
 def shown_outcome(life):

@@ -28,31 +28,34 @@ def is_param(value):
     return is_name(value) and value[0] in SMALL
 
 
-def is_plain_value(value):
-    """None, a bool, a whole number, a text that does not begin with @, or a tuple of these."""
+def leaves(value):
+    """The value itself, or, of a tuple, all that stands in it at any depth and is no tuple."""
+    found = []
     todo = [value]
     while todo:
         part = todo.pop()
         if isinstance(part, tuple):
             todo.extend(list(part))
-        elif isinstance(part, str):
-            if part.startswith("@"):
-                return False
-        elif part is not None and not isinstance(part, int):
-            return False
-    return True
+        else:
+            found.append(part)
+    return found
+
+
+def is_plain_leaf(leaf):
+    if isinstance(leaf, str):
+        return not leaf.startswith("@")
+    return leaf is None or isinstance(leaf, int)
+
+
+def is_arg_leaf(leaf):
+    return is_plain_leaf(leaf) or isinstance(leaf, str) and is_name(leaf[1:])
+
+
+def is_plain_value(value):
+    """None, a bool, a whole number, a text that does not begin with @, or a tuple of these."""
+    return all([is_plain_leaf(leaf) for leaf in leaves(value)])
 
 
 def is_arg(value):
     """Like a plain value, but that a text may stand for a variable: @ and its name."""
-    todo = [value]
-    while todo:
-        part = todo.pop()
-        if isinstance(part, tuple):
-            todo.extend(list(part))
-        elif isinstance(part, str):
-            if part.startswith("@") and not is_name(part[1:]):
-                return False
-        elif part is not None and not isinstance(part, int):
-            return False
-    return True
+    return all([is_arg_leaf(leaf) for leaf in leaves(value)])

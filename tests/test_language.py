@@ -42,6 +42,7 @@ WORDS_NOWHERE = set(
     "NamedTuple TypedDict TYPE_CHECKING abstractmethod".split()
 )
 BAD_STARTS = ("_wall", "_pe_", "_dcw_", "_enum_", "_cm_", "_twin_re_", "_lay_", "_law_", "_stub_", "_sre", "_WallAttr")
+BAD_NAMES = r"(_cold|_tuplegetter|_outside|_record|_written_out|_member_names)[0-9_]*"
 BAD_FILES = {"test", "tests", "testing", "site", "conftest", "sitecustomize", "usercustomize", "heapq", "math",
              "itertools"}
 KEYWORDS_OF_BUILTINS = {"sorted": {"key", "reverse"}, "min": {"key", "default"}, "max": {"key", "default"},
@@ -226,7 +227,7 @@ class LanguageTest(unittest.TestCase):
                 for name in self.names_in(node):
                     where = f"{path.name}:{getattr(node, 'lineno', 0)}: {name}"
                     self.assertRegex(name, r"^(_?[A-Za-z][A-Za-z0-9_]*|_|__init__)$", where)
-                    self.assertFalse(name.startswith(BAD_STARTS), where)
+                    self.assertFalse(name.startswith(BAD_STARTS) or re.fullmatch(BAD_NAMES, name), where)
                     self.assertFalse(keyword.iskeyword(name) or name in NOWHERE, where)
                 if isinstance(node, ast.Name) and node.id == "_":
                     self.assertIsInstance(node.ctx, ast.Store)
@@ -268,8 +269,9 @@ class LanguageTest(unittest.TestCase):
                 self.assertFalse(words & WORDS_NOWHERE, f"{path.name}: {token.string}")
                 if token.type != tokenize.STRING:
                     self.assertNotIn("type", words, path)
-                for part in ("dataclass", "overload", "contextmanager", "_WallAttr"):
+                for part in ("dataclass", "overload", "contextmanager"):
                     self.assertNotIn(part, token.string, path)
+            self.assertNotRegex(text, r"\b(_wall|_WallAttr)\b", path)
 
     def test_strings(self):
         for path, tree in TREES.items():
@@ -350,6 +352,47 @@ class LanguageTest(unittest.TestCase):
                     self.assertNotIn(node.func.id, {"set", "frozenset", "bytes", "map"}, path)
                 if isinstance(node, ast.Call) and getattr(node.func, "attr", "") in BUILTIN_METHODS:
                     self.assertEqual([], node.keywords, f"{path.name}:{node.lineno}")
+
+    def test_classes_are_called_or_tested_for(self):
+        own = {row.name for tree in TREES.values() for row in classes(tree)}
+        for path, tree in TREES.items():
+            good = {id(base) for row in classes(tree) for base in row.bases}
+            for node in ast.walk(tree):
+                if isinstance(node, ast.Call):
+                    good.add(id(node.func))
+                    if getattr(node.func, "id", "") == "isinstance":
+                        good.update(id(part) for part in ast.walk(node.args[1]))
+                if isinstance(node, ast.Attribute) and node.attr == "__init__":
+                    good.add(id(node.value))
+                if isinstance(node, ast.ExceptHandler):
+                    good.add(id(node.type))
+            for node in ast.walk(tree):
+                if isinstance(node, ast.Name) and node.id in own:
+                    self.assertIn(id(node), good, f"{path.name}:{node.lineno}: {node.id}")
+
+    def test_calls_pass_what_functions_take(self):
+        functions_of = {}
+        for tree in TREES.values():
+            for node in tree.body:
+                if isinstance(node, ast.FunctionDef):
+                    functions_of.setdefault(node.name, []).append(node.args)
+                if isinstance(node, ast.ClassDef):
+                    made = [part.args for part in node.body if getattr(part, "name", "") == "__init__"]
+                    functions_of.setdefault(node.name, []).extend(made)
+        for path, tree in TREES.items():
+            imported = {alias.name for node in imports(tree) for alias in node.names} | set(module_names(tree))
+            for node in ast.walk(tree):
+                name = getattr(getattr(node, "func", None), "id", None)
+                if name not in imported or len(functions_of.get(name, [])) != 1:
+                    continue
+                if any(isinstance(part, ast.Starred) for part in node.args) or node.keywords:
+                    continue
+                args = functions_of[name][0]
+                most = len(args.args) - (1 if args.args and args.args[0].arg == "self" else 0)
+                where = f"{path.name}:{node.lineno}: {name}"
+                self.assertGreaterEqual(len(node.args), most - len(args.defaults), where)
+                if args.vararg is None:
+                    self.assertLessEqual(len(node.args), most, where)
 
     def test_views_are_used_on_the_spot(self):
         lazy = {"zip", "enumerate", "reversed", "range"}
