@@ -82,6 +82,18 @@ class CancelDetailsTest(Case):
         self.assert_said([True, False, OWN], F, let("g", "gather", ("@F",), True), tell("cancel", "@g", "m"),
                          tell("cancel", "@g", "late"), tell_await("it", "@g"))
 
+    def test_a_second_request_reaches_the_children_again(self):
+        twice = asynced(catch(sleep(9), then=()), catch(sleep(9)), ("return", 1))
+        self.assert_said([True, True, fault("CancelledError", "b"), 2, CANCELLED], start("t", "call", "twice"), sleep(0),
+                         let("g", "gather", ("@t",)), tell("cancel", "@g", "a"), sleep(0), tell("cancel", "@g", "b"),
+                         sleep(1), tell("cancelling", "@t"), tell_await("it", "@g"), twice=twice)
+
+    def test_one_that_is_done_asks_no_child(self):
+        self.assert_said([fault("Odd", 1), False, 0, 5], start("t", "call", "five"), start("o", "call", "odd"),
+                         let("g", "gather", ("@t", "@o")), tell_await("it", "@g"), tell("cancel", "@g"),
+                         tell("cancelling", "@t"), tell_await("it", "@t"), odd=asynced(*ODD),
+                         five=asynced(sleep(3), ("return", 5)))
+
     def test_the_own_fault_of_the_last_child(self):
         own = asynced(catch(sleep(9), then=(let("f", "fault", "CancelledError", "own", 2), ("raise", "@f"))))
         self.assert_said([True, fault("CancelledError", "own", 2), CANCELLED], start("t", "call", "own"), sleep(0),
@@ -127,6 +139,10 @@ class WaitDetailsTest(Case):
     def test_a_wait_for_in_time_leaves_no_timer(self):
         self.assertEqual([(1, "Task-1", None), (9, "Task-1", "end")],
                          log(let("c", "sleep", 1), tell_await("wait_for", "@c", 3), sleep(8), say("end")))
+
+    def test_the_timer_of_a_wait_is_cancelled_by_the_callback(self):
+        life = live(2, F, do("at", 5, "tell", 1), do("set_result", "@F", 1), wait("wait", ("@F",), 50), tell=SAYS)
+        self.assertEqual((1, 2), (life.loop.dropped_timers, len(life.loop.heap)))
 
     def test_a_wait_that_is_cancelled_leaves_nothing(self):
         life = live(4, F, do("at", 5, "tell", 1), start("t", "call", "waits"), sleep(0), do("cancel", "@t"), sleep(9),
