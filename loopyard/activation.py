@@ -3,6 +3,7 @@
 from loopyard.coroutines import new_coroutine
 from loopyard.faults import Fault, Thrown
 from loopyard.frames import Body
+from loopyard.moments import pairs_of
 from loopyard.signals import ENDS, ENTERS, FAILS, FAULT, LEAVES
 
 # What the innermost frame is told.
@@ -26,6 +27,10 @@ class Activation:
         self.handled = []
         self.frames = [Body(body)]
         self.calling = False
+
+    def has(self, moment):
+        frames = tuple([frame.has(moment) for frame in self.frames])
+        return (self.word, moment.common, pairs_of(self.variables), tuple(self.handled), frames)
 
     def value_of(self, loop, arg):
         if isinstance(arg, tuple):

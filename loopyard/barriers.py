@@ -29,6 +29,9 @@ class Barrier(Manager):
         self.inside = 0
         self.condition = Condition(Lock())
 
+    def has(self, moment):
+        return (self.parties, self.state, self.inside, self.condition)
+
     def enter(self, loop):
         return (ENTERS, BarrierWait(self))
 
@@ -54,6 +57,9 @@ class BarrierWait:
         self.barrier = barrier
         self.stage = TAKING
         self.index = 0
+
+    def has(self, moment):
+        return (self.barrier, self.stage, self.index)
 
     def start(self, loop):
         return (ENTERS, Acquire(self.barrier.condition.lock))
@@ -105,6 +111,9 @@ class BarrierChange:
     def __init__(self, barrier, breaks):
         self.barrier = barrier
         self.breaks = breaks
+
+    def has(self, moment):
+        return (self.barrier, self.breaks)
 
     def start(self, loop):
         return (ENTERS, Acquire(self.barrier.condition.lock))

@@ -18,6 +18,9 @@ class Condition(Manager):
         self.lock = lock
         self.row = []
 
+    def has(self, moment):
+        return (self.lock, tuple(self.row))
+
     def enter(self, loop):
         return (ENTERS, Acquire(self.lock))
 
@@ -49,6 +52,9 @@ class ConditionWait:
         self.is_woken = False
         self.fault = None
 
+    def has(self, moment):
+        return (self.condition, self.waiter, self.is_woken, self.fault)
+
     def start(self, loop):
         condition = self.condition
         condition.lock.set_free(loop)
@@ -73,6 +79,7 @@ class ConditionWait:
         if not self.is_woken:
             self.is_woken = True
             leave_line(self.condition.row, self.waiter)
+            self.waiter = None
         return (ENTERS, Acquire(self.condition.lock))
 
 
@@ -84,6 +91,10 @@ class ConditionUntil:
         self.word = word
         self.told = told
         self.is_asking = False
+
+    def has(self, moment):
+        """Its routine is called behind each wait, as a callback is."""
+        return (self.condition, moment.common, self.word, tuple(self.told))
 
     def start(self, loop):
         self.is_asking = True

@@ -20,8 +20,15 @@ class Each(Thing):
         self.left = len(futures)
         self.timer = None
 
+    def has(self, moment):
+        lines = (tuple(self.open_ones), tuple(self.ends), tuple(self.getters))
+        return (lines, self.left, self.timer)
+
     def who(self):
         return "as_completed"
+
+    def does(self, moment):
+        return ("each", self)
 
     def fire(self, loop, given):
         """A future of it is done, or, if none is given, its time has come."""
@@ -51,6 +58,9 @@ class Turn:
         self.each = each
         self.asks = asks
         self.waiter = None
+
+    def has(self, moment):
+        return (self.each, self.asks, self.waiter)
 
     def start(self, loop):
         each = self.each

@@ -19,6 +19,9 @@ class Fault:
         self.told = told
         self.parts = parts
 
+    def has(self, moment):
+        return (self.kind, self.told, self.parts)
+
 
 class Thrown(Exception):
     """A fault on its way out of what a program asked for."""

@@ -3,7 +3,8 @@
 A frame is told what happens by its methods: go (nothing held it up), called (a call has given a
 value), awaited (what it awaited has), ended (the frame above it has been left). Each answers with
 a signal, or with None if the activation goes on by itself. What is thrown out of one of them, or
-out of what it called or awaited, leaves the frame with this fault.
+out of what it called or awaited, leaves the frame with this fault. What a frame has is enough to
+tell what it goes on with, for all bodies around it are told, too.
 """
 
 from loopyard.coroutines import awaiting, new_coroutine
@@ -11,9 +12,8 @@ from loopyard.each import Each, Turn
 from loopyard.faults import Fault, Thrown, is_of_kinds
 from loopyard.managers import Manager
 from loopyard.signals import BREAK, ENDS, ENTERS, FAULT, LEAVES, NORMAL, RETURN
-
-# At which place of a step its call stands.
-CALL_AT = {"do": 1, "let": 2, "await": 2, "if": 1, "with": 2}
+from loopyard.steps import CALL_AT
+from loopyard.texts import value_text
 
 # The bodies of a try that can be carried out.
 FIRST = 0
@@ -86,6 +86,13 @@ class Body:
     def __init__(self, steps):
         self.steps = steps
         self.at = 0
+        self.text = None
+
+    def has(self, moment):
+        """Its steps as a value, wherever they stand; the text of them is made once, if at all."""
+        if self.text is None:
+            self.text = value_text(self.steps)
+        return ("body", self.text, self.at)
 
     def go(self, loop, act):
         if self.at == len(self.steps):
@@ -125,6 +132,9 @@ class While:
     def __init__(self, step):
         self.step = step
 
+    def has(self, moment):
+        return ("while",)
+
     def go(self, loop, act):
         return act.make_call(loop, self.step[1])
 
@@ -154,6 +164,9 @@ class EachPart:
         self.parts = parts
         self.at = 0
 
+    def has(self, moment):
+        return ("each", self.parts, self.at)
+
     def go(self, loop, act):
         if self.at == len(self.parts):
             return (LEAVES, (NORMAL, None))
@@ -174,6 +187,9 @@ class EachTurns:
     def __init__(self, step, turns):
         self.step = step
         self.turns = turns
+
+    def has(self, moment):
+        return ("each", self.turns)
 
     def go(self, loop, act):
         turns = self.turns
@@ -201,6 +217,9 @@ class Try:
         self.step = step
         self.part = FIRST
         self.before = None
+
+    def has(self, moment):
+        return ("try", self.part, self.before)
 
     def ended(self, loop, act, how, value):
         if self.part == LAST:
@@ -247,6 +266,9 @@ class With:
         self.manager = manager
         self.stage = COMING_IN
         self.end = None
+
+    def has(self, moment):
+        return ("with", self.manager, self.stage, self.end)
 
     def go(self, loop, act):
         signal = self.manager.enter(loop)

@@ -111,6 +111,9 @@ class Shield:
     def who(self):
         return "shield"
 
+    def does(self, moment):
+        return ("shield", self.outer)
+
     def fire(self, loop, given):
         outer = self.outer
         if outer.state == CANCELLED:
@@ -134,6 +137,9 @@ class Unshield:
 
     def who(self):
         return "shield"
+
+    def does(self, moment):
+        return ("unshield", self.inner)
 
     def fire(self, loop, given):
         if not is_done(self.inner):

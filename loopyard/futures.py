@@ -195,5 +195,8 @@ class Release:
     def who(self):
         return "release"
 
+    def does(self, moment):
+        return ("release", self.future, self.value)
+
     def fire(self, loop, given):
         release(loop, self.future, self.value)

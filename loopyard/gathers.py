@@ -17,6 +17,13 @@ class Gatherer:
     def who(self):
         return "gather"
 
+    def does(self, moment):
+        """How many are still to be looked at matters only as long as the gathering future is open."""
+        outer = self.outer
+        if outer is None or is_done(outer):
+            return ("gather", outer)
+        return ("gather", outer, self.left)
+
     def fire(self, loop, given):
         self.look_at(loop, given)
 

@@ -30,6 +30,10 @@ class TaskGroup(Manager):
         self.aborting = False
         self.asked = False
 
+    def has(self, moment):
+        marks = (self.entered_once, self.leaving, self.aborting, self.asked)
+        return (tuple(self.members), tuple(self.faults), self.great, self.parent, self.waiter, marks)
+
     def enter(self, loop):
         if self.entered_once or loop.current is None:
             raise Thrown(Fault("RuntimeError"))
@@ -55,6 +59,9 @@ class TaskGroup(Manager):
 
     def who(self):
         return "group"
+
+    def does(self, moment):
+        return ("group", self)
 
     def fire(self, loop, given):
         """A task of the group is done [8.5]."""
@@ -86,6 +93,9 @@ class GroupLeaving:
         self.group = group
         self.fault = fault
         self.held = None
+
+    def has(self, moment):
+        return (self.group, self.fault, self.held)
 
     def start(self, loop):
         group = self.group

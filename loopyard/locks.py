@@ -18,6 +18,9 @@ class Lock(Manager):
         self.held = False
         self.row = []
 
+    def has(self, moment):
+        return (self.held, tuple(self.row))
+
     def enter(self, loop):
         return (ENTERS, Acquire(self))
 
@@ -49,6 +52,9 @@ class Acquire:
     def __init__(self, lock):
         self.lock = lock
         self.waiter = None
+
+    def has(self, moment):
+        return (self.lock, self.waiter)
 
     def start(self, loop):
         lock = self.lock
@@ -82,6 +88,9 @@ class Event(Thing):
         self.is_on = False
         self.row = []
 
+    def has(self, moment):
+        return (self.is_on, tuple(self.row))
+
     def turn_on(self, loop):
         if not self.is_on:
             self.is_on = True
@@ -94,6 +103,9 @@ class EventWait:
     def __init__(self, event):
         self.event = event
         self.waiter = None
+
+    def has(self, moment):
+        return (self.event, self.waiter)
 
     def start(self, loop):
         if self.event.is_on:

@@ -17,10 +17,11 @@ class Loop:
     def __init__(self, program, debug, slow):
         self.table = program.routines
         self.ops = all_ops()
+        self.used = program.ops
         self.sources = all_sources(program.outside)
         self.debug = debug
         self.slow = slow
-        self.clock = 0
+        self.now = 0
         self.ready = []
         self.heap = []
         self.dropped_timers = 0
@@ -31,6 +32,7 @@ class Loop:
         self.shared = {}
         self.current = None
         self.log = []
+        self.said = []
         self.notes = []
         self.numbers = {}
         self.unnamed = 0
@@ -38,6 +40,19 @@ class Loop:
         self.fresh = {}
         self.undone = {}
         self.unseen = {}
+
+    def has(self, moment):
+        """All that its further course hangs on, what is quick to compare ahead of the rest."""
+        now = self.now if moment.tells_time else None
+        unnamed = self.unnamed if moment.tells_names else None
+        times = tuple([row[0] - self.now for row in self.heap])
+        coming = tuple([(source, self.sources[source].to_come(self.now)) for source in sorted(self.sources)])
+        return (
+            (self.stopping, self.closed, now, unnamed, self.dropped_timers, times, coming),
+            (tuple(self.ready), tuple([row[1] for row in self.heap])),
+            tuple([(source, self.readers[source]) for source in self.readers]),
+            (moment.common, tuple(list(self.undone.values()))),
+        )
 
     def next_serial(self):
         self.serials += 1
@@ -51,10 +66,11 @@ class Loop:
         if self.current is not None:
             name = self.current.name
         row = [self.show(value) for value in values]
-        self.log.append((self.clock, name, *row))
+        self.log.append((self.now, name, *row))
+        self.said.append((self.now, name is not None, tuple(values)))
 
     def note(self, message, who, worth):
-        self.notes.append((self.clock, message, who, worth))
+        self.notes.append((self.now, message, who, worth))
 
     def report(self, message, fault, who):
         """Tell the routine that the program has laid for this, or else the notes [11.6]."""
@@ -108,24 +124,29 @@ class Loop:
         return [source for source in self.readers if self.has_arrived(source)]
 
     def has_arrived(self, source):
-        return source in self.sources and self.sources[source].has_arrived(self.clock)
+        return source in self.sources and self.sources[source].has_arrived(self.now)
 
-    def next_times(self):
-        """When something will come: the top timer, and the next arrival at each registered source."""
-        times = [row[0] for row in self.heap[:1]]
-        for source in self.readers:
-            if source in self.sources and not self.sources[source].is_spent():
-                times.append(self.sources[source].next_time())
-        return times
+    def expected(self):
+        """The registered sources at which something is unread or still to come."""
+        return [source for source in self.readers if source in self.sources and not self.sources[source].is_spent()]
+
+    def arrival_times(self):
+        return [self.sources[source].next_time() for source in self.expected()]
+
+    def is_stuck(self):
+        """Whether nothing will ever come, whatever the next turn sweeps ahead of its waiting."""
+        if self.ready or self.stopping or self.readable():
+            return False
+        return not self.arrival_times() and all([row[1].dropped for row in self.heap])
 
     def wait(self):
         """Step 2 of a turn; whether anything will ever come."""
         if self.ready or self.stopping or self.readable():
             return True
-        times = self.next_times()
+        times = [row[0] for row in self.heap[:1]] + self.arrival_times()
         if not times:
             return False
-        self.clock = max(self.clock, min(times))
+        self.now = max(self.now, min(times))
         return True
 
     def turn(self):
@@ -134,7 +155,7 @@ class Loop:
         if not self.wait():
             return False
         self.ready.extend([self.readers[source] for source in self.readable()])
-        while self.heap and self.heap[0][0] <= self.clock:
+        while self.heap and self.heap[0][0] <= self.now:
             self.ready.append(self.take_timer())
         self.carry_out_ready()
         return True
@@ -155,14 +176,14 @@ class Loop:
 
     def carry_out(self, handle):
         """Carry out a handle; the fault that ends the run, None where there is none."""
-        before = self.clock
+        before = self.now
         who = handle.call.who()
         try:
             self.fire(handle, who)
         except Thrown as e:
             return e.fault
-        if self.debug and self.clock - before >= self.slow:
-            self.note("slow", who, self.clock - before)
+        if self.debug and self.now - before >= self.slow:
+            self.note("slow", who, self.now - before)
         return None
 
     def fire(self, handle, who):
@@ -172,6 +193,14 @@ class Loop:
             if is_exit(e.fault):
                 raise
             self.report(f"Exception in callback {who}", e.fault, who)
+
+    def can_come(self):
+        """The handles that can still be carried out."""
+        if self.closed:
+            return []
+        handles = self.ready + [row[1] for row in self.heap]
+        handles.extend([self.readers[source] for source in self.expected()])
+        return [handle for handle in handles if not handle.dropped]
 
     def close(self):
         """Nothing more is carried out; what was left undone is noted [11.5]."""

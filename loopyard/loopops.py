@@ -18,7 +18,7 @@ def call_at(loop, due, word, *told):
 
 def call_later(loop, delay, word, *told):
     need_whole(delay)
-    return loop.timer_at(loop.clock + delay, Routine(word, list(told)))
+    return loop.timer_at(loop.now + delay, Routine(word, list(told)))
 
 
 def request_cancel(loop, thing, *message):
@@ -49,13 +49,13 @@ def tell_when(loop, thing):
 
 
 def tell_time(loop):
-    return loop.clock
+    return loop.now
 
 
 def spend(loop, ticks):
     need_whole(ticks)
     need(ticks >= 0, "ValueError")
-    loop.clock += ticks
+    loop.now += ticks
 
 
 def stop(loop):

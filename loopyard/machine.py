@@ -60,6 +60,9 @@ class Routine:
     def who(self):
         return self.word
 
+    def does(self, moment):
+        return ("call", moment.common, self.word, *self.told)
+
     def fire(self, loop, given):
         run_plain(loop, self.word, self.told)
 
@@ -72,6 +75,9 @@ class OnDone:
 
     def who(self):
         return self.word
+
+    def does(self, moment):
+        return ("call", moment.common, self.word)
 
     def fire(self, loop, given):
         run_plain(loop, self.word, [given])

@@ -1,7 +1,7 @@
 """Programs: routines of steps, and what arrives from outside [5.1, 5.9, 5.10]."""
 
 from loopyard.errors import BadProgram
-from loopyard.steps import first_wrong_step
+from loopyard.steps import first_wrong_step, used_ops
 from loopyard.texts import is_param, is_plain_value, is_whole, is_word
 
 
@@ -54,12 +54,20 @@ def is_call_of(program, call):
     return is_plain_value(call[1:])
 
 
-def check_life(program, call):
-    """Errors of the first two arguments of all that carries out a program [11.9]."""
+def check_program(program):
     if not isinstance(program, Program):
         raise BadProgram(())
+
+
+def check_call(program, call):
     if not is_call_of(program, call):
         raise BadProgram(("call",))
+
+
+def check_life(program, call):
+    """Errors of the first two arguments of all that carries out a program [11.9]."""
+    check_program(program)
+    check_call(program, call)
 
 
 class Program:
@@ -70,6 +78,7 @@ class Program:
         check_outside(outside)
         self._routines = {word: routines[word] for word in sorted(routines)}
         self._arrivals = outside
+        self.ops = used_ops(routines)
 
     @property
     def routines(self):

@@ -29,6 +29,10 @@ class Queue(Thing):
         self.unfinished = 0
         self.is_shut = False
 
+    def has(self, moment):
+        lines = (tuple(self.rows), tuple(self.getters), tuple(self.putters), tuple(self.joiners))
+        return (self.order, self.most, lines, self.unfinished, self.is_shut)
+
     def is_empty(self):
         return not self.rows
 
@@ -96,6 +100,9 @@ class Put:
         self.item = item
         self.waiter = None
 
+    def has(self, moment):
+        return (self.queue, self.item, self.waiter)
+
     def start(self, loop):
         queue = self.queue
         if not queue.is_full():
@@ -121,6 +128,9 @@ class Get:
         self.queue = queue
         self.waiter = None
 
+    def has(self, moment):
+        return (self.queue, self.waiter)
+
     def start(self, loop):
         queue = self.queue
         if not queue.is_empty():
@@ -145,6 +155,9 @@ class Join:
     def __init__(self, queue):
         self.queue = queue
         self.waiter = None
+
+    def has(self, moment):
+        return (self.queue, self.waiter)
 
     def start(self, loop):
         queue = self.queue

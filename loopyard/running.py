@@ -1,15 +1,14 @@
 """Running a program as asyncio.run does, at once or turn by turn [11, 12.1]."""
 
-from loopyard.activation import start_routine
 from loopyard.coroutines import new_coroutine
-from loopyard.errors import BadValue, Stuck
-from loopyard.faults import Fault, Thrown, is_exit
-from loopyard.futures import ask, cancel, is_done, lay, new_future, release, see, unlay
+from loopyard.errors import Stuck
+from loopyard.faults import Thrown
+from loopyard.futures import cancel, lay, new_future, release, see, unlay
 from loopyard.loop import Loop
 from loopyard.program import check_life
+from loopyard.runs import RunEnd, check_loop_values, check_whole_from_1, outcome_of_run, task_of_call
 from loopyard.signals import ENDS
 from loopyard.tasks import make_task
-from loopyard.texts import is_whole
 from loopyard.things import CANCELLED
 
 MAIN = 0
@@ -24,20 +23,11 @@ SHUTDOWN_MESSAGE = "unhandled exception during asyncio.run() shutdown"
 class Nothing:
     """The coroutine of the small tasks behind main: it does nothing."""
 
+    def has(self, moment):
+        return ()
+
     def start(self, loop):
         return (ENDS, None)
-
-
-class RunEnd:
-    """The callback that ends a run for a future [11.1]."""
-
-    def who(self):
-        return "run"
-
-    def fire(self, loop, given):
-        see(loop, given)
-        if given.fault is None or not is_exit(given.fault):
-            loop.stopping = True
 
 
 class Gone:
@@ -48,8 +38,14 @@ class Gone:
         self.left = len(tasks)
         self.future = future
 
+    def has(self, moment):
+        return (tuple(self.tasks), self.left, self.future)
+
     def who(self):
         return "shutdown"
+
+    def does(self, moment):
+        return ("gone", self)
 
     def fire(self, loop, given):
         self.left -= 1
@@ -59,17 +55,6 @@ class Gone:
             release(loop, self.future, None)
 
 
-def check_whole_from_1(value):
-    if not is_whole(value) or value < 1:
-        raise BadValue("a whole number from 1 on is needed")
-
-
-def check_loop_values(debug, slow):
-    if not isinstance(debug, bool):
-        raise BadValue("debug is True or False")
-    check_whole_from_1(slow)
-
-
 class Life:
     """What run does, turn by turn. It stands ahead of its first turn at first."""
 
@@ -77,8 +62,7 @@ class Life:
         check_life(program, call)
         check_loop_values(debug, slow)
         loop = Loop(program, debug, slow)
-        started = start_routine(loop, call[0], list(call[1:]))
-        self.main = make_task(loop, new_coroutine(loop, call[0], started))
+        self.main = task_of_call(loop, call)
         self.loop = loop
         self.phase = MAIN
         self.run_end = RunEnd()
@@ -89,9 +73,23 @@ class Life:
         self.notes = loop.notes
         self.turns = 0
 
+    def has(self, moment):
+        """All that its further course hangs on [12.2]; the tasks that were cancelled matter until they are told."""
+        leaving = ()
+        if self.phase == CANCELLING:
+            leaving = tuple(self.leaving)
+        return ((self.phase, self.aim is None), *self.loop.has(moment), (self.came_out, leaving))
+
+    def is_over(self):
+        return self.phase == OVER
+
+    def is_stuck(self):
+        """Whether the next turn would find the loop stuck; ahead of a run there is always something to do."""
+        return not self.is_over() and self.aim is not None and self.loop.is_stuck()
+
     def turn(self):
         """The next turn; whether there is a further one."""
-        if self.phase == OVER:
+        if self.is_over():
             return False
         if self.aim is None:
             self.begin_run()
@@ -107,7 +105,7 @@ class Life:
         self.turns += 1
         if fault is not None or loop.stopping:
             self.end_run(fault)
-        return self.phase != OVER
+        return not self.is_over()
 
     def pending(self):
         return [task.name for task in self.loop.undone.values()]
@@ -139,10 +137,7 @@ class Life:
         loop.stopping = False
         unlay(aim, self.run_end)
         self.aim = None
-        if fault is None:
-            end = run_outcome(loop, aim)
-        else:
-            end = (None, fault)
+        end = outcome_of_run(loop, aim, fault)
         if self.phase == MAIN:
             self.came_out = end
             self.phase = CANCELLING if loop.undone else FIRST_END
@@ -172,16 +167,6 @@ class Life:
             self.end_early((None, e.fault))
 
 
-def run_outcome(loop, aim):
-    """What comes out of a run for a future: a tuple of its value and its fault."""
-    if not is_done(aim):
-        return (None, Fault("RuntimeError"))
-    try:
-        return (ask(loop, aim), None)
-    except Thrown as e:
-        return (None, e.fault)
-
-
 class Report:
     """What a run has told."""
 
@@ -190,7 +175,7 @@ class Report:
         self.outcome = outcome
         self.log = loop.log
         self.notes = loop.notes
-        self.now = loop.clock
+        self.now = loop.now
         self.turns = life.turns
         self.waiting = [(task.name, loop.show(task.waits)) for task in loop.undone.values()]
 

@@ -18,6 +18,9 @@ class Semaphore(Manager):
         self.value = value
         self.row = []
 
+    def has(self, moment):
+        return (self.value, tuple(self.row))
+
     def enter(self, loop):
         return (ENTERS, TakeOne(self))
 
@@ -64,6 +67,9 @@ class BoundedSemaphore(Semaphore):
         Semaphore.__init__(self, value)
         self.bound = value
 
+    def has(self, moment):
+        return (self.value, tuple(self.row), self.bound)
+
     def is_at_bound(self):
         return self.value >= self.bound
 
@@ -74,6 +80,9 @@ class TakeOne:
     def __init__(self, semaphore):
         self.semaphore = semaphore
         self.waiter = None
+
+    def has(self, moment):
+        return (self.semaphore, self.waiter)
 
     def start(self, loop):
         semaphore = self.semaphore

@@ -17,6 +17,10 @@ class Source:
     def has_arrived(self, clock):
         return not self.is_spent() and self.next_time() <= clock
 
+    def to_come(self, clock):
+        """What was not taken, each with the time until it arrives; 0 if it has."""
+        return tuple([(max(0, at - clock), value) for at, value in self.rows[self.taken:]])
+
     def take(self):
         value = self.rows[self.taken][1]
         self.taken += 1

@@ -18,6 +18,9 @@ SHAPES = {
     "with": ("target", "call", "body"), "return": ("arg",),
 }
 
+# At which place of a step its call stands.
+CALL_AT = {"do": 1, "let": 2, "await": 2, "if": 1, "while": 1, "with": 2}
+
 
 def is_plain_routine(word, routines):
     """Whether a plain routine is called so; its params and its steps do not matter here."""
@@ -121,3 +124,16 @@ def first_wrong_step(word, routine, routines):
         inner.reverse()
         todo.extend(inner)
     return None
+
+
+def used_ops(routines):
+    """The ops that stand anywhere in routines that were checked, as the keys of a dict."""
+    found = {}
+    todo = [routines[word][2] for word in routines]
+    while todo:
+        body = todo.pop()
+        for step in body:
+            if step[0] in CALL_AT:
+                found[step[CALL_AT[step[0]]][0]] = True
+            todo.extend([steps for _, steps in inner_bodies(step)])
+    return found

@@ -112,6 +112,9 @@ class Step:
     def who(self):
         return self.task.name
 
+    def does(self, moment):
+        return ("step", self.task, self.deed, self.worth)
+
     def fire(self, loop, given):
         do_step(loop, self.task, self.deed, self.worth)
 
@@ -124,6 +127,9 @@ class Wakeup:
 
     def who(self):
         return self.task.name
+
+    def does(self, moment):
+        return ("wakeup", self.task)
 
     def fire(self, loop, given):
         deed, worth = outcome(loop, given)

@@ -59,3 +59,28 @@ def is_plain_value(value):
 def is_arg(value):
     """Like a plain value, but that a text may stand for a variable: @ and its name."""
     return all([is_arg_leaf(leaf) for leaf in leaves(value)])
+
+
+def leaf_text(leaf):
+    if leaf is None:
+        return "none"
+    if isinstance(leaf, bool):
+        return "true" if leaf else "false"
+    if isinstance(leaf, str):
+        return f"{len(leaf)}:{leaf}"
+    # Without end, other than decimal digits, which Python refuses for very great numbers.
+    return f"{leaf:x}"
+
+
+def value_text(value):
+    """A plain value as a text: two values have the same text just if they are the same [1.3]."""
+    found = []
+    todo = [value]
+    while todo:
+        part = todo.pop()
+        if isinstance(part, tuple):
+            found.append(f"({len(part)}")
+            todo.extend(part[::-1])
+        else:
+            found.append(leaf_text(part))
+    return " ".join(found)

@@ -28,6 +28,12 @@ class Handle(Thing):
         self.heaped = False
         self.dropped = False
 
+    def has(self, moment):
+        deed = self.call.does(moment)
+        if self.given is not None:
+            deed = (*deed, self.given)
+        return (deed, self.dropped, moment.time_of(self.due, self.heaped))
+
 
 class Coroutine(Thing):
     """What an async routine, or an op of the loop's own, does when it is awaited."""
@@ -40,6 +46,12 @@ class Coroutine(Thing):
         self.word = word
         self.carrier = carrier
         self.fresh = True
+
+    def has(self, moment):
+        """What it will carry out, as long as it was not awaited; else whether it is being awaited."""
+        if self.fresh:
+            return ("fresh", self.carrier)
+        return (moment.is_carried_out(self.carrier),)
 
 
 class Future(Thing):
@@ -57,6 +69,15 @@ class Future(Thing):
         self.kept = None
         self.laid = []
 
+    def has(self, moment):
+        return future_has(self, moment)
+
+
+def future_has(future, moment):
+    """What each future has, whatever else it is."""
+    laid = tuple([call.does(moment) for call in future.laid])
+    return (future.state, future.value, future.fault, future.message, future.kept, laid)
+
 
 class Task(Future):
     """A future that carries out a coroutine; stack holds what it carries out, the innermost last."""
@@ -73,6 +94,10 @@ class Task(Future):
         self.requests = 0
         self.marked = False
 
+    def has(self, moment):
+        stack = (moment.name_of(self), self.coroutine, tuple(self.stack))
+        return (future_has(self, moment), stack, self.waits, self.requests, self.marked)
+
 
 class Gathering(Future):
     """A future for the outcomes of several children; asked is whether it has been asked to cancel."""
@@ -83,3 +108,6 @@ class Gathering(Future):
         self.as_values = as_values
         self.asked = False
         self.is_asking = False
+
+    def has(self, moment):
+        return (future_has(self, moment), self.children, self.as_values, self.asked)

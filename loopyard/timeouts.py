@@ -26,8 +26,15 @@ class Timeout(Manager):
         self.noted = 0
         self.handle = None
 
+    def has(self, moment):
+        due = moment.time_of(self.due, self.state == NEW or self.handle is not None)
+        return (self.state, self.task, self.noted, self.handle, due)
+
     def who(self):
         return "timeout"
+
+    def does(self, moment):
+        return ("timeout", self)
 
     def enter(self, loop):
         if self.state != NEW:
@@ -43,7 +50,7 @@ class Timeout(Manager):
         self.drop_handle(loop)
         if due is None:
             return
-        if due <= loop.clock:
+        if due <= loop.now:
             self.handle = loop.soon(self)
         else:
             self.handle = loop.timer_at(due, self)

@@ -62,3 +62,18 @@ def shown(value, numbers):
     if isinstance(value, Thing):
         return thing_shown(value, numbers)
     return value
+
+
+def bare_value(value):
+    """A value as the bare log has it: things are told by their kinds alone [13.1]."""
+    if isinstance(value, tuple):
+        return tuple([bare_value(part) for part in value])
+    if isinstance(value, Fault):
+        row = ["fault", value.kind]
+        row.extend([bare_value(part) for part in value.told])
+        if is_group(value):
+            row.append(bare_value(value.parts))
+        return tuple(row)
+    if isinstance(value, Thing):
+        return value.KIND
+    return value

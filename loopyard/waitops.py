@@ -39,7 +39,7 @@ def as_completed(loop, things, timeout=None):
     for future in futures:
         lay(loop, future, each)
     if futures and timeout is not None:
-        each.timer = loop.timer_at(loop.clock + timeout, each)
+        each.timer = loop.timer_at(loop.now + timeout, each)
     return each
 
 
@@ -47,7 +47,7 @@ def timeout_in(loop, delay):
     need_whole_or_none(delay)
     if delay is None:
         return Timeout(None)
-    return Timeout(loop.clock + delay)
+    return Timeout(loop.now + delay)
 
 
 def timeout_at(loop, due):

@@ -20,12 +20,18 @@ class Sleep:
         self.result = result
         self.timer = None
 
+    def has(self, moment):
+        return (self.delay, self.result, self.timer)
+
     def start(self, loop):
-        need_whole(self.delay)
-        if self.delay <= 0:
+        delay = self.delay
+        need_whole(delay)
+        # From now on the timer alone tells how long it takes.
+        self.delay = None
+        if delay <= 0:
             return (PAUSES, None)
         waiter = new_future(loop)
-        self.timer = loop.timer_at(loop.clock + self.delay, Release(waiter, self.result))
+        self.timer = loop.timer_at(loop.now + delay, Release(waiter, self.result))
         return (WAITS, waiter)
 
     def took(self, loop, value):
@@ -53,23 +59,33 @@ class Wait:
         self.waiter = None
         self.timer = None
 
+    def has(self, moment):
+        asked = (self.things, self.timeout, self.until)
+        return (asked, tuple(self.watched), self.left, self.waiter, self.timer)
+
     def start(self, loop):
-        need_tuple(self.things)
-        need(len(self.things) > 0, "ValueError")
+        things, timeout = self.things, self.timeout
+        need_tuple(things)
+        need(len(things) > 0, "ValueError")
         need(isinstance(self.until, str) and self.until in UNTILS, "ValueError")
-        need(all([isinstance(thing, Future) for thing in self.things]), "TypeError")
-        need_whole_or_none(self.timeout)
-        self.watched = list({thing: True for thing in self.things})
+        need(all([isinstance(thing, Future) for thing in things]), "TypeError")
+        need_whole_or_none(timeout)
+        # What it was asked for is told from now on by what it watches, and by its timer.
+        self.things, self.timeout = None, None
+        self.watched = list({thing: True for thing in things})
         self.left = len(self.watched)
         self.waiter = new_future(loop)
-        if self.timeout is not None:
-            self.timer = loop.timer_at(loop.clock + self.timeout, Release(self.waiter))
+        if timeout is not None:
+            self.timer = loop.timer_at(loop.now + timeout, Release(self.waiter))
         for future in self.watched:
             lay(loop, future, self)
         return (WAITS, self.waiter)
 
     def who(self):
         return "wait"
+
+    def does(self, moment):
+        return ("wait", self)
 
     def fire(self, loop, given):
         self.left -= 1
@@ -110,13 +126,19 @@ class WaitFor:
         self.thing = thing
         self.timeout = timeout
 
+    def has(self, moment):
+        return (self.thing, self.timeout)
+
     def start(self, loop):
-        need_whole_or_none(self.timeout)
-        if self.timeout is None:
-            return (ENTERS, TimedBlock(self.thing, Timeout(None)))
-        if self.timeout <= 0:
-            return (ENTERS, CancelAndWait(self.thing))
-        return (ENTERS, TimedBlock(self.thing, Timeout(loop.clock + self.timeout)))
+        thing, timeout = self.thing, self.timeout
+        need_whole_or_none(timeout)
+        # What it enters has both from now on.
+        self.thing, self.timeout = None, None
+        if timeout is None:
+            return (ENTERS, TimedBlock(thing, Timeout(None)))
+        if timeout <= 0:
+            return (ENTERS, CancelAndWait(thing))
+        return (ENTERS, TimedBlock(thing, Timeout(loop.now + timeout)))
 
     def took(self, loop, value):
         return (ENDS, value)
@@ -131,20 +153,24 @@ class CancelAndWait:
     def __init__(self, thing):
         self.thing = thing
         self.future = None
-        self.laid = None
+        self.callback = None
+
+    def has(self, moment):
+        """It is begun in the step in which it is made, and waits for what its callback releases."""
+        return (self.future, self.callback.does(moment))
 
     def start(self, loop):
         self.future = as_future(loop, self.thing)
         if is_done(self.future):
             return (ENDS, ask(loop, self.future))
         waiter = new_future(loop)
-        self.laid = Release(waiter)
-        lay(loop, self.future, self.laid)
+        self.callback = Release(waiter)
+        lay(loop, self.future, self.callback)
         cancel(loop, self.future, None)
         return (WAITS, waiter)
 
     def took(self, loop, value):
-        unlay(self.future, self.laid)
+        unlay(self.future, self.callback)
         try:
             return (ENDS, ask(loop, self.future))
         except Thrown as e:
@@ -153,7 +179,7 @@ class CancelAndWait:
             return (FAILS, e.fault)
 
     def threw(self, loop, fault):
-        unlay(self.future, self.laid)
+        unlay(self.future, self.callback)
         return (FAILS, fault)
 
 
@@ -163,6 +189,10 @@ class TimedBlock:
     def __init__(self, thing, timeout):
         self.thing = thing
         self.timeout = timeout
+
+    def has(self, moment):
+        """It is begun in the step in which it is made; its task, or what that carries out, has the thing."""
+        return (self.timeout,)
 
     def start(self, loop):
         self.timeout.enter(loop)

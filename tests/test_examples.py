@@ -1,4 +1,4 @@
-"""The examples of the document that speak of programs, runs and lives, with just the answers that stand there."""
+"""The examples of the document, with just the answers that stand there."""
 
 import re
 import unittest
@@ -19,6 +19,22 @@ raises BadProgram(place=('main', 1, 2, 0))
 >>> p = Program({'main': ('async', (), (('let', 'c', ('call', 'child', 7)), ('let', 't', ('task', '@c')), ('try', (('await', 'x', ('it', '@t')), ('say', '@x')), ((('ValueError',), 'e', (('say', '@t', '@e'),)),), (), (('say', 'last'),)))), 'child': ('async', ('v',), (('await', None, ('sleep', 3)), ('let', 'f', ('fault', 'ValueError', '@v')), ('raise', '@f')))})
 >>> run(p, ('main',)).log
 [(3, 'Task-1', 'Task-2', ('fault', 'ValueError', 7)), (3, 'Task-1', 'last')]
+
+>>> from loopyard.alike import pace, parted
+>>> from loopyard.program import Program
+>>> one = Program({'main': ('async', (), (('while', ('it', 1), (('await', None, ('sleep', 2)), ('say', 'tick'))),))})
+>>> two = Program({'main': ('async', (), (('while', ('it', 1), (('await', None, ('sleep', 2)), ('say', 'tick'), ('await', None, ('sleep', 1)), ('await', None, ('sleep', 1)), ('say', 'tick'))),))})
+>>> [pace(one, ('main',), 50)[1:], parted(one, ('main',), two, ('main',), 100)]
+[(1, 2), None]
+
+>>> from loopyard.heaps import popped, pushed
+>>> rows = pushed(pushed([(5, 0)], (5, 1)), (3, 2))
+>>> (rows, popped(rows))
+([(3, 2), (5, 1), (5, 0)], ((3, 2), [(5, 1), (5, 0)]))
+
+>>> from loopyard.heaps import swept
+>>> swept([(1, 0), (2, 1), (1, 2)], (0,), 5)
+([(1, 2), (2, 1)], 4)
 
 >>> from loopyard.program import Program
 >>> from loopyard.running import run
@@ -87,6 +103,24 @@ raises BadProgram(place=('main', 1, 2, 0))
 >>> run(Program({"main": ("async", (), steps), "bad": ("async", (), bad)}), ("main",)).log
 [(0, 'Task-1', ('fault', 'ExceptionGroup', 'unhandled errors in a TaskGroup', (('fault', 'Odd', 5),)))]
 
+>>> from loopyard.endings import fate, is_fate
+>>> from loopyard.program import Program
+>>> count = (("let", "n", ("add", "@n", 1)), ("if", ("same", "@n", 3), (("let", "n", ("it", 0)),), ()), ("await", None, ("sleep", 0)))
+>>> program = Program({"main": ("async", (), (("let", "n", ("it", 0)), ("while", ("it", True), count)))})
+>>> [fate(program, ("main",), 50), is_fate(program, ("main",), ("round", 4, 6)), is_fate(program, ("main",), ("round", 1, 2))]
+[('round', 1, 3), True, False]
+
+>>> from loopyard.endings import out_of_reach, sleepers
+>>> from loopyard.program import Program
+>>> from loopyard.running import Life
+>>> idle = (("let", "f", ("future",)), ("await", None, ("it", "@f")))
+>>> steps = (("let", "c", ("call", "idle")), ("do", ("task", "@c", "idle")), ("while", ("it", True), (("await", None, ("sleep", 0)),)))
+>>> program = Program({"main": ("async", (), steps), "idle": ("async", (), idle)})
+>>> life = Life(program, ("main",))
+>>> turns = [life.turn() for turn in range(3)]
+>>> [turns, sleepers(program, ("main",), 50), out_of_reach(life)]
+[[True, True, True], ['idle'], ['idle']]
+
 >>> from loopyard.program import Program
 >>> from loopyard.running import run
 >>> w = ('async', ('n',), (('with', None, ('it', '@G'), (('say', 'in', '@n'), ('await', None, ('sleep', 5)))),))
@@ -140,12 +174,24 @@ raises BadProgram(place=('main', 1, 2, 0))
 [('value', 7), [0, 1, 2, 3, 4], 6]
 
 >>> from loopyard.program import Program
+>>> from loopyard.sessions import Session
+>>> routines = {"halter": ("async", (), (("do", ("stop",)),)), "slow": ("async", (), (("await", None, ("sleep", 5)), ("return", "done")))}
+>>> session = Session(Program(routines))
+>>> name = session.create_task(("halter",))
+>>> session.run_until_complete(("slow",))
+raises Raised(('fault', 'RuntimeError'))
+
+>>> from loopyard.program import Program
 >>> from loopyard.running import run
 >>> bad = (("let", "x", ("fault", "Oops", 3)), ("raise", "@x"))
 >>> main = (("let", "c", ("call", "bad")), ("do", ("task", "@c")), ("do", ("call", "bad")))
 >>> run(Program({"main": ("async", (), main), "bad": ("async", (), bad)}), ("main",)).notes
 [(0, 'coroutine was never awaited', 'bad', None), (0, 'Task exception was never retrieved', 'Task-2', ('fault', 'Oops', 3))]
 """
+
+
+# The field that an error is made with by position.
+FIRST_FIELDS = {"Raised": "fault", "TooLong": "turns"}
 
 
 class ExamplesTest(unittest.TestCase):
@@ -159,15 +205,15 @@ class ExamplesTest(unittest.TestCase):
         if not lines[-1].startswith("raises "):
             self.assertEqual(lines[-1], repr(eval(last, names)))
             return
-        kind, field, value = re.fullmatch(r"raises (\w+)\((\w+)=(.*)\)", lines[-1]).groups()
+        kind, field, value = re.fullmatch(r"raises (\w+)\((?:(\w+)=)?(.*)\)", lines[-1]).groups()
         with self.assertRaises(ValueError) as caught:
             eval(last, names)
         self.assertEqual(kind, type(caught.exception).__name__)
-        self.assertEqual(value, repr(getattr(caught.exception, field)))
+        self.assertEqual(value, repr(getattr(caught.exception, field or FIRST_FIELDS[kind])))
 
     def test_examples(self):
         examples = EXAMPLES.strip().split("\n\n")
-        self.assertEqual(20, len(examples))
+        self.assertEqual(26, len(examples))
         for example in examples:
             with self.subTest(example):
                 self.check(example)

@@ -29,6 +29,7 @@ METHODS_OF_FIRST_LIST = set(
     "setdefault split splitlines startswith strip update upper values zfill bit_length add discard".split()
 )
 ATTRIBUTES_LIKE_METHODS = set("count index title find get join lower upper split strip copy add".split())
+CLASS_NAME = ("__class__", "__name__")
 DUNDERS = {"__init__", "__eq__", "__repr__", "__str__", "__len__", "__enter__", "__exit__", "__call__", "__iter__"}
 NOWHERE = set(
     "register mro elements open input law version_info with_traceback add_note".split()
@@ -221,6 +222,20 @@ class LanguageTest(unittest.TestCase):
                     docstring = isinstance(part, ast.Expr) and isinstance(part.value, ast.Constant)
                     self.assertTrue(docstring or isinstance(part, (ast.FunctionDef, ast.Assign)), row.name)
 
+    def test_class_names_are_read_off_objects(self):
+        for path, tree in TREES.items():
+            inner = {id(node.value) for node in ast.walk(tree)
+                     if isinstance(node, ast.Attribute) and node.attr == "__name__"}
+            for node in ast.walk(tree):
+                if isinstance(node, ast.Attribute) and node.attr in CLASS_NAME:
+                    where = f"{path.name}:{node.lineno}"
+                    self.assertIsInstance(node.ctx, ast.Load, where)
+                    if node.attr == "__name__":
+                        self.assertEqual("__class__", getattr(node.value, "attr", None), where)
+                    else:
+                        self.assertIn(id(node), inner, where)
+                        self.assertIsInstance(node.value, (ast.Name, ast.Attribute), where)
+
     def test_names(self):
         for path, tree in TREES.items():
             for node in ast.walk(tree):
@@ -236,7 +251,7 @@ class LanguageTest(unittest.TestCase):
         if isinstance(node, ast.Name):
             return [node.id]
         if isinstance(node, ast.Attribute):
-            return [node.attr]
+            return [] if node.attr in CLASS_NAME else [node.attr]
         if isinstance(node, ast.arg):
             return [node.arg]
         if isinstance(node, (ast.FunctionDef, ast.ClassDef)):
@@ -311,7 +326,7 @@ class LanguageTest(unittest.TestCase):
                     if id(node) in called:
                         self.assertIn(node.attr, methods | BUILTIN_METHODS, where)
                     else:
-                        self.assertIn(node.attr, attributes | values | {"routines", "outside"}, where)
+                        self.assertIn(node.attr, attributes | values | {"routines", "outside", *CLASS_NAME}, where)
 
     def test_errors(self):
         for path, tree in TREES.items():

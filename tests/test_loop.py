@@ -165,14 +165,14 @@ class CountTest(Case):
         life.turn()
         self.assertEqual((1, 3), (loop.dropped_timers, len(loop.heap)))
         life.turn()
-        self.assertEqual((0, 5), (loop.dropped_timers, loop.clock))
+        self.assertEqual((0, 5), (loop.dropped_timers, loop.now))
 
     def test_a_cancel_behind_its_turn_is_not_counted(self):
         life, loop = self.life(let("a", "at", 1, "tell", 1), do("at", 9, "tell", 1), sleep(2), do("cancel", "@a"),
                                sleep(9))
         for _ in range(4):
             life.turn()
-        self.assertEqual((2, 0), (loop.clock, loop.dropped_timers))
+        self.assertEqual((2, 0), (loop.now, loop.dropped_timers))
 
     def sweeping(self, many, dropped):
         steps = [let("h", "at", 1, "tell", 0), let("Hs", "it", ())]
@@ -321,7 +321,7 @@ class TurnsTest(Case):
         clocks = []
         for _ in range(3):
             life.turn()
-            clocks.append(life.loop.clock)
+            clocks.append(life.loop.now)
         self.assertEqual([0, 0, 3], clocks)
 
     def test_as_many_handles_as_are_ready_now(self):
