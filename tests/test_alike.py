@@ -7,7 +7,7 @@ from loopyard.alike import bare, pace, parted
 from loopyard.errors import BadProgram, BadValue, LoopError, TooLong
 from loopyard.program import Program
 from loopyard.running import Life
-from tests.helper import Case, asynced, catch, do, let, main, plain, say, sleep, start, tell, wait
+from tests.helper import Case, asynced, catch, do, let, main, plain, say, sleep, wait
 
 M = ("main",)
 NEVER = (let("f", "future"), wait("it", "@f"))

@@ -3,11 +3,13 @@
 import sys
 import unittest
 
+from loopyard.alike import bare, pace, parted
+from loopyard.endings import fate, is_fate, out_of_reach, sleepers
 from loopyard.program import Program
-from loopyard.running import run
+from loopyard.running import Life, run
+from loopyard.sessions import Session
 from tests.helper import (
-    SAYS, Case, asynced, catch, do, fault, let, log, main, plain, report, said, say, sleep, start, tell, tell_await,
-    wait,
+    SAYS, Case, asynced, catch, do, let, main, plain, report, said, say, sleep, tell, tell_await, wait,
 )
 
 
@@ -27,7 +29,7 @@ def nested(depth, steps):
     return steps
 
 
-class BoundsTest(Case):
+class BoundsCase(Case):
     def setUp(self):
         limit = sys.getrecursionlimit()
         self.addCleanup(sys.setrecursionlimit, limit)
@@ -37,6 +39,8 @@ class BoundsTest(Case):
         # Nothing may hang on recursion deeper than a few hundred calls.
         sys.setrecursionlimit(depth + 300)
 
+
+class BoundsTest(BoundsCase):
     def test_turns(self):
         told = report(let("n", "it", 0), count_to(1993, sleep(0)), say("@n"))
         self.assertEqual((("value", None), 1999), (told.outcome, told.turns))
@@ -119,6 +123,77 @@ class BoundsTest(Case):
     def test_long_programs(self):
         steps = tuple(let("x", "it", at) for at in range(5000))
         self.assertEqual([(0, "Task-1", 4999)], run(Program({"main": ("async", (), (*steps, say("@x")))}), ("main",)).log)
+
+
+class EndlessTest(BoundsCase):
+    """Fates, sleepers and logs held together, for as many turns and things as the document promises."""
+
+    SPIN = ("while", ("it", 1), (sleep(0),))
+
+    def test_as_many_turns_as_there_can_be(self):
+        counts = ("while", ("it", 1), (let("n", "add", "@n", 1), sleep(0)))
+        self.assertEqual(("open", 2000), fate(main(let("n", "it", 0), counts), ("main",), 2000))
+        for most in (7, 300, 999, 1500, 1998):
+            turns = ("if", ("same", "@n", most), (let("n", "it", 0),), ())
+            program = main(let("n", "it", 0), ("while", ("it", 1), (let("n", "add", "@n", 1), turns, say("@n"), sleep(1))))
+            # Two turns for each tick: the timer, and the task that it wakes.
+            expected = ("round", 1, 2 * most) if 2 * most < 2000 else ("open", 2000)
+            self.assertEqual(expected, fate(program, ("main",), 2000))
+            if 2 * most < 2000:
+                self.assertEqual((1, most, most), pace(program, ("main",), 2000))
+                self.assertIsNone(parted(program, ("main",), program, ("main",), 2000))
+                self.assertTrue(is_fate(program, ("main",), ("round", 2, 2 * most)))
+
+    def test_states_that_grow(self):
+        for name, step in (("x", let("x", "add", "@x", ("@f",))), ("X", let("X", "add", "@X", ("@f",)))):
+            grows = ("while", ("it", 1), (let("f", "future"), step, sleep(0)))
+            self.assertEqual(("open", 2000), fate(main(let(name, "it", ()), grows), ("main",), 2000))
+
+    def test_many_things(self):
+        program = main(let("n", "it", 0), let("x", "it", None), count_to(19000, let("f", "future"), do("set_result", "@f", "@x"),
+                                                                         let("x", "it", "@f")), self.SPIN)
+        self.assertEqual(("round", 1, 1), fate(program, ("main",), 2000))
+        life = Life(program, ("main",))
+        life.turn()
+        self.assertEqual([], out_of_reach(life))
+        self.assertEqual(["Future"], [row[2] for row in bare(main(let("f", "future"), say("@f")), ("main",), 9)])
+
+    def test_many_tasks(self):
+        many = count_to(499, let("c", "call", "idles"), do("task", "@c"))
+        program = main(let("F", "future"), let("n", "it", 0), many, ("while", ("it", 1), (let("n", "add", "@n", 1), sleep(0))),
+                       idles=asynced(wait("it", "@F")))
+        self.assertEqual(("open", 2000), fate(program, ("main",), 2000))
+        program = main(let("F", "future"), let("n", "it", 0), many, self.SPIN, idles=asynced(wait("it", "@F")))
+        self.assertEqual(499, len(sleepers(program, ("main",), 2000)))
+        program = main(let("n", "it", 0), many, self.SPIN, idles=asynced(self.SPIN))
+        self.assertEqual((("round", 2, 1), []), (fate(program, ("main",), 2000), sleepers(program, ("main",), 2000)))
+
+    def test_nested_bodies(self):
+        self.assertEqual("round", fate(main(*nested(32, (self.SPIN,))), ("main",), 300)[0])
+        self.assertEqual("over", fate(main(*nested(32, (sleep(1),))), ("main",), 300)[0])
+
+    def test_nested_values_and_calls(self):
+        value = 1
+        for _ in range(30):
+            value = (value,)
+        program = main(("while", ("it", 1), (let("x", "it", value), say("@x"), sleep(0))))
+        self.assertEqual((1, 1, 0), pace(program, ("main",), 9))
+        down = asynced(("if", ("less", "@n", 40), (let("m", "add", "@n", 1), ("await", "r", ("call", "down", "@m"))), (self.SPIN,)),
+                       params=("n",))
+        self.assertEqual(("round", 1, 1), fate(main(wait("call", "down", 0), down=down), ("main",), 9))
+
+    def test_great_numbers(self):
+        great = 10**6000
+        program = main(let("n", "it", great), ("while", ("it", 1), (let("m", "add", "@n", great), sleep(0))))
+        self.assertEqual(("round", 1, 1), fate(program, ("main",), 9))
+
+    def test_long_programs(self):
+        steps = tuple(let("x", "it", at) for at in range(5000))
+        self.assertEqual(("round", 1, 1), fate(main(*steps, self.SPIN), ("main",), 2000))
+
+    def test_a_session_with_many_turns(self):
+        session = Session(main(let("n", "it", 0), count_to(1998, sleep(0)), ("return", "@n")))
+        self.assertEqual(1998, session.run_until_complete(("main",)))
 
 
 class RingTest(Case):

@@ -8,7 +8,7 @@ from loopyard.errors import BadProgram, BadValue, LoopError, Stuck, TooLong
 from loopyard.program import Program
 from loopyard.running import Life, run
 from loopyard.sessions import Session
-from tests.helper import SAYS, Case, asynced, catch, do, let, main, plain, say, sleep, start, wait
+from tests.helper import SAYS, Case, asynced, catch, do, let, main, plain, say, sleep, wait
 
 M = ("main",)
 NEVER = asynced(let("f", "future"), wait("it", "@f"))

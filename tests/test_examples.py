@@ -1,7 +1,10 @@
 """The examples of the document, with just the answers that stand there."""
 
+import contextlib
+import io
 import re
 import unittest
+from pathlib import Path
 
 EXAMPLES = r"""
 >>> from loopyard.program import Program
@@ -217,6 +220,18 @@ class ExamplesTest(unittest.TestCase):
         for example in examples:
             with self.subTest(example):
                 self.check(example)
+
+
+class ReadmeTest(unittest.TestCase):
+    def test_what_it_prints(self):
+        text = (Path(__file__).resolve().parent.parent / "README.md").read_text()
+        blocks = re.findall(r"```python\n(.*?)```", text, re.S)
+        printed = io.StringIO()
+        names = {}
+        with contextlib.redirect_stdout(printed):
+            for block in blocks:
+                exec(block, names)
+        self.assertEqual(re.findall(r"print\(.*\) +# (.*)", "\n".join(blocks)), printed.getvalue().strip().split("\n"))
 
 
 if __name__ == "__main__":

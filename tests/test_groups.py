@@ -4,8 +4,7 @@ import unittest
 
 from loopyard.running import Life
 from tests.helper import (
-    SAYS, Case, asynced, catch, do, fault, let, log, main, plain, report, said, say, sleep, start, tell, tell_await,
-    wait,
+    Case, asynced, catch, do, fault, let, log, main, plain, report, said, say, sleep, start, tell, tell_await,
 )
 
 CANCELLED = fault("CancelledError")

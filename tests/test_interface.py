@@ -1,6 +1,7 @@
 """The interface of DOC.md: names, arguments, kinds of values, errors."""
 
 import ast
+import importlib
 import inspect
 import unittest
 from pathlib import Path
@@ -10,6 +11,16 @@ from loopyard.errors import BadProgram, BadValue, LoopError, Raised, Stuck, TooL
 from loopyard.program import Program
 from loopyard.running import Life, run
 
+INTERFACE = {
+    "heaps.py": ("is_heap", "pushed", "popped", "heaped", "ripe", "swept"), "sessions.py": ("Session",),
+    "endings.py": ("fate", "is_fate", "sleepers", "out_of_reach"), "alike.py": ("bare", "parted", "pace"),
+    "errors.py": ("LoopError", "BadProgram", "BadValue", "TooLong", "Raised", "Stuck"), "program.py": ("Program",),
+    "running.py": ("run", "Life"),
+}
+METHODS = {
+    ("running.py", "Life"): "__init__ turn pending", ("program.py", "Program"): "__init__ routines outside",
+    ("sessions.py", "Session"): "__init__ create_task run_until_complete run_forever stop close clock pending queued times",
+}
 PACKAGE = Path(__file__).resolve().parent.parent / "loopyard"
 EMPTY = Program({"main": ("async", (), ())})
 
@@ -20,15 +31,16 @@ class InterfaceTest(unittest.TestCase):
                 if isinstance(node, (ast.FunctionDef, ast.ClassDef))}
 
     def test_everything_is_defined_in_its_file(self):
-        self.assertLessEqual({"LoopError", "BadProgram", "BadValue", "TooLong", "Raised", "Stuck"},
-                             set(self.defined("errors.py")))
-        self.assertIn("Program", self.defined("program.py"))
-        self.assertLessEqual({"run", "Life"}, set(self.defined("running.py")))
-        methods = {part.name for part in self.defined("running.py")["Life"].body if isinstance(part, ast.FunctionDef)}
-        self.assertLessEqual({"turn", "pending"}, methods)
-        methods = {part.name for part in self.defined("program.py")["Program"].body
-                   if isinstance(part, ast.FunctionDef)}
-        self.assertLessEqual({"routines", "outside"}, methods)
+        for name, listed in INTERFACE.items():
+            self.assertLessEqual(set(listed), set(self.defined(name)), name)
+            module = importlib.import_module("loopyard." + name[:-3])
+            for word in listed:
+                self.assertEqual(module.__name__, getattr(module, word).__module__)
+
+    def test_methods_stand_in_their_classes(self):
+        for (name, word), listed in METHODS.items():
+            methods = {part.name for part in self.defined(name)[word].body if isinstance(part, ast.FunctionDef)}
+            self.assertLessEqual(set(listed.split()), methods, word)
 
     def test_signatures(self):
         self.assertEqual("(routines, *, outside=())", str(inspect.signature(Program)))

@@ -3,9 +3,7 @@
 import unittest
 
 from loopyard.running import Life
-from tests.helper import (
-    Case, asynced, catch, do, fault, let, log, main, plain, report, said, say, sleep, start, tell, tell_await, wait,
-)
+from tests.helper import Case, asynced, catch, do, fault, let, main, report, said, say, sleep, start, tell, tell_await
 
 FULL, EMPTY, SHUT = fault("QueueFull"), fault("QueueEmpty"), fault("QueueShutDown")
 TYPE = fault("TypeError")

@@ -5,8 +5,7 @@ import unittest
 from loopyard.errors import Stuck
 from loopyard.running import Life, run
 from tests.helper import (
-    RAISES, SAYS, Case, asynced, catch, do, fault, let, log, main, plain, report, said, say, sleep, start, tell,
-    tell_await, wait,
+    RAISES, SAYS, Case, asynced, catch, do, fault, let, log, main, plain, report, say, sleep, start, tell, wait,
 )
 
 ODD = let("x", "fault", "Odd", 1)

@@ -7,7 +7,7 @@ from loopyard.errors import BadProgram, BadValue, LoopError, Raised, Stuck, TooL
 from loopyard.program import Program
 from loopyard.running import Life
 from loopyard.sessions import Session
-from tests.helper import RAISES, SAYS, asynced, catch, do, fault, let, main, plain, say, sleep, start, tell, wait
+from tests.helper import RAISES, SAYS, asynced, do, fault, let, plain, say, sleep, start, wait
 
 NEVER = asynced(let("f", "future"), wait("it", "@f"))
 WAITS = asynced(("await", "v", ("it", "@F")), say("woken", "@v"))

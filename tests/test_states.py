@@ -5,7 +5,9 @@ import unittest
 from loopyard.program import Program
 from loopyard.running import Life
 from loopyard.states import are_in_one_state, is_in_state, state_rows
-from tests.helper import Case, asynced, catch, do, let, plain, say, sleep, start, wait
+from loopyard.texts import value_text
+from loopyard.values import is_same
+from tests.helper import Case, asynced, catch, do, let, plain, say, sleep, wait
 
 IDLE = (("while", ("it", 1), (sleep(0),)),)
 NEVER = asynced(let("f", "future"), wait("it", "@f"))
@@ -681,6 +683,16 @@ class LinesTest(StateCase):
         cancelled = (do("cancel", "@t"), do("uncancel", "@t"))
         self.assert_unlike((cancelled, (do("notify", "@x"),)), (cancelled, (do("cancel", "@t", "m"), do("uncancel", "@t"))),
                            ahead=ahead, turns=6, w=asynced(("with", None, ("it", "@X"), (wait("wait_on", "@X"),))))
+
+
+class TextsTest(unittest.TestCase):
+    def test_same_values_have_the_same_text_and_others_have_not(self):
+        leaves = (None, True, False, 0, 1, -1, 10, 255, 10**5000, "", "none", "true", "1", "ff", " ", "a", "a b", "(0", "0:", "1:a", "3:a b")
+        values = [*leaves, *((leaf,) for leaf in leaves), *(((leaf,), "a") for leaf in leaves), *((leaf, ("a",)) for leaf in leaves),
+                  (), ((),), ((), ()), (("a", "b"), "c"), ("a", ("b", "c")), ("a", "b", "c"), ("a b", "c"), ("a", "b c")]
+        for at, one in enumerate(values):
+            for other in values[:at + 1]:
+                self.assertEqual(is_same(one, other), value_text(one) == value_text(other), (one, other))
 
 
 class PhasesTest(StateCase):
