@@ -129,6 +129,9 @@ class SweptTest(unittest.TestCase):
         # Not where twice the count is no more than their number, or where there are only 100.
         self.assertEqual((rows, 50), swept(rows, gone, 50))
         self.assertEqual((rows[:100], 51), swept(rows[:100], gone, 51))
+        more = [*rows, (50, 101)]
+        self.assertEqual((more, 51), swept(more, gone, 51))
+        self.assertEqual((heaped([*heap]), 0), swept(more, [*gone, 101], 52))
         self.assertEqual((heaped(rows[:102]), 0), swept(rows, (), 10**30))
 
     def test_the_count_decides_and_not_the_cancelled_ones(self):
